@@ -1,0 +1,1 @@
+"""Columns' pages and files: each in the way with the fewest bytes."""

@@ -27,3 +27,22 @@ def judge(k, the_bytes):
     if not is_kind(k):
         return [NOT_AS_TOLD]
     return [0 if right_cells(k, the_bytes) is None else 1]
+
+
+def look(k, the_bytes):
+    if not is_kind(k):
+        return [NOT_AS_TOLD]
+    if right_cells(k, the_bytes) is None:
+        return [NO_RIGHT_PAGE]
+    return answer_with_list(0, head_numbers(the_bytes))
+
+
+def read(k, start, n, the_bytes):
+    if not is_kind(k):
+        return [NOT_AS_TOLD]
+    page_cells = right_cells(k, the_bytes)
+    if page_cells is None:
+        return [NO_RIGHT_PAGE]
+    if start + n > len(page_cells):
+        return [TOO_FEW]
+    return answer_with_list(n, cells_told(k, page_cells[start:start + n]))

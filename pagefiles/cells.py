@@ -44,11 +44,13 @@ def value_told(kind, value):
     return [len(value)] + list(value)
 
 
-# None where what is handed over isn't cells of the kind.
-def cells_handed(kind, handed):
+# The first cell is of the first kind, each further one of the next; behind the last kind stands the first again.
+# None where what is handed over isn't such cells, or more than so many.
+def cells_in_turn(kinds, most, handed):
     cells = []
     at = 0
     while at < len(handed):
+        kind = kinds[len(cells) % len(kinds)]
         cell = None
         if handed[at] == 1:
             cell = value_handed(kind, handed, at + 1)
@@ -57,10 +59,19 @@ def cells_handed(kind, handed):
         elif handed[at] != 0:
             return None
         cells.append(cell)
-        if len(cells) > MOST_CELLS:
+        if len(cells) > most:
             return None
         at = at + len(cell_told(kind, cell))
     return cells
+
+
+# None where what is handed over isn't cells of the kind.
+def cells_handed(kind, handed):
+    return cells_in_turn([kind], MOST_CELLS, handed)
+
+
+def values_among(cells):
+    return [cell for cell in cells if cell is not None]
 
 
 def cell_told(kind, cell):

@@ -1,6 +1,6 @@
 """A page: its head, which cells are null, the values, the check."""
 
-from pagefiles.cells import MOST_CELLS, is_value
+from pagefiles.cells import MOST_CELLS, is_value, values_among
 from pagefiles.numerals import check_bytes, number_at, number_bytes, packed_bytes, packed_numbers, packed_width
 from pagefiles.readback import values_in_way
 from pagefiles.ways import each_way, way_taken
@@ -24,7 +24,7 @@ def null_map(cells):
 
 
 def page_bytes(kind, cells):
-    values = [cell for cell in cells if cell is not None]
+    values = values_among(cells)
     nulls = len(cells) - len(values)
     state = null_state(len(cells), nulls)
     way = 0

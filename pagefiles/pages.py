@@ -1,12 +1,17 @@
 """The calls. Each gives back one list of whole numbers: the number that is
 answered, then each list that is told, with how many numbers it has ahead."""
 
-from pagefiles.cells import cells_handed, cells_told, is_kind
+from pagefiles.cells import cells_handed, cells_told, is_kind, values_among
+from pagefiles.filewrite import MOST_FILE_BYTES, file_bytes
 from pagefiles.layout import head_numbers, page_bytes, right_cells
+from pagefiles.tables import table_handed
+from pagefiles.ways import each_way, way_taken
 
 NOT_AS_TOLD = -1
 NO_RIGHT_PAGE = -2
 TOO_FEW = -4
+FILE_TOO_LONG = -6
+WAY_DOES_NOT_GO = -1
 
 
 def answer_with_list(number, numbers):
@@ -46,3 +51,27 @@ def read(k, start, n, the_bytes):
     if start + n > len(page_cells):
         return [TOO_FEW]
     return answer_with_list(n, cells_told(k, page_cells[start:start + n]))
+
+
+def sizes(k, cells):
+    if not is_kind(k):
+        return [NOT_AS_TOLD]
+    page_cells = cells_handed(k, cells)
+    if page_cells is None:
+        return [NOT_AS_TOLD]
+    values = values_among(page_cells)
+    if len(values) == 0:
+        return answer_with_list(0, [])
+    written = each_way(k, values)
+    counts = [WAY_DOES_NOT_GO if the_bytes is None else len(the_bytes) for the_bytes in written]
+    return answer_with_list(way_taken(written), counts)
+
+
+def file(g, kinds, rows):
+    table = table_handed(g, kinds, rows)
+    if table is None:
+        return [NOT_AS_TOLD]
+    written = file_bytes(table)
+    if len(written) > MOST_FILE_BYTES:
+        return [FILE_TOO_LONG]
+    return answer_with_list(len(written), written)

@@ -236,3 +236,106 @@ def sample_cells():
     for kind, _, values in VALUES_IN_WAY:
         out += [(kind, values), (kind, with_nulls(values))]
     return out
+
+
+MARK = b"PAGES1"
+
+
+def checked(data):
+    return data + u(crc32c(data))
+
+
+def foot_of(entries, groups, rows, mark=b"F\0\0\0"):
+    """The foot with its check, right for what stands there."""
+    told = b"".join(u(number) for entry in entries for number in entry)
+    return checked(mark + u(groups) + told + u(rows))
+
+
+def end_of(foot):
+    return u(len(foot)) + MARK
+
+
+def file_parts(g, kinds, rows):
+    """The parts of the table's file in order: what each is, and its bytes. A row is a list of cells."""
+    head = checked(MARK + bytes([len(kinds), g]) + bytes(kinds))
+    parts = [("mark", MARK), ("columns", head[6:7]), ("g", head[7:8]), ("kinds", head[8:-4]), ("check", head[-4:])]
+    at, entries, groups = len(head), [], 0
+    for first in range(0, len(rows), g):
+        group = rows[first:first + g]
+        parts.append(("group", b"G\0\0\0" + u(len(group))))
+        at, groups = at + 8, groups + 1
+        for j, kind in enumerate(kinds):
+            cells = [row[j] for row in group]
+            page = bytes(right_page(kind, cells))
+            entries.append((at, len(page), cells.count(None)))
+            parts.append(("page", page))
+            at += len(page)
+    foot = foot_of(entries, groups, len(rows))
+    return parts + [("foot", foot), ("end", end_of(foot))]
+
+
+def joined(parts):
+    return list(b"".join(data for _, data in parts))
+
+
+def right_file(g, kinds, rows):
+    return joined(file_parts(g, kinds, rows))
+
+
+def part_places(parts):
+    """What each part is, its first byte's place, and the place behind its last."""
+    out, at = [], 0
+    for name, data in parts:
+        out.append((name, at, at + len(data)))
+        at += len(data)
+    return out
+
+
+def handed_rows(rows):
+    return handed([cell for row in rows for cell in row])
+
+
+def cell_for(kind, i, null_each=0):
+    """Some cell of the kind, another for each i; null where null_each divides i."""
+    if null_each and i % null_each == 0:
+        return None
+    if kind == 0:
+        return (i * 2654435761 + i * i * 40503) * 2 ** 20 % 2 ** 64 - 2 ** 63
+    return bytes((i * 31 + j * j * 7 + i * j) % 256 for j in range(i * 7 % 41))
+
+
+def rows_for(kinds, count, null_each=0):
+    return [[cell_for(kind, i + 3 * j, null_each) for j, kind in enumerate(kinds)] for i in range(count)]
+
+
+def column_rows(columns):
+    """Rows of columns that are given each by itself."""
+    return [list(row) for row in zip(*columns)]
+
+
+def sample_tables():
+    """Triples of g, kinds, rows: the edges of a table, both kinds, with and without nulls."""
+    out = [(g, kinds, []) for g in (1, 64) for kinds in ([0], [1], [0, 1] * 4)]
+    for kinds in ([0], [1], [1, 0], [0, 0, 1]):
+        for g, count in ((1, 1), (1, 3), (4, 1), (4, 4), (4, 5), (4, 11), (64, 1), (64, 64), (64, 65)):
+            for null_each in (0, 1, 2, 3):
+                out.append((g, kinds, rows_for(kinds, count, null_each)))
+    out += [(64, [0, 1, 0], rows_for([0, 1, 0], 256, 5)), (1, [0], [[1]] * 256), (63, [1], rows_for([1], 256)),
+            (64, [0] * 8, rows_for([0] * 8, 70, 4)), (2, [1] * 8, rows_for([1] * 8, 5)),
+            (7, [0, 1] * 4, rows_for([0, 1] * 4, 20, 2))]
+    out += [(64, [kind], [[cell] for cell in cells]) for kind, cells in sample_cells() if cells]
+    return out
+
+
+def drawn_table(draw):
+    """A table whose file isn't longer than files may be."""
+    kinds = [draw.below(2) for _ in range(1 + draw.below(8))]
+    g = draw.pick([1, 2, 3, 5, 8, 63, 64, 1 + draw.below(64)])
+    columns = [[] for _ in kinds]
+    for column, kind in zip(columns, kinds):
+        while len(column) < 20:
+            column.extend(drawn_cells(draw, kind))
+    rows = column_rows(columns)[:draw.below(40)]
+    while len(right_file(g, kinds, rows)) > 16384:
+        rows = rows[:len(rows) // 2]
+    return g, kinds, rows

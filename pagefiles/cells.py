@@ -65,8 +65,10 @@ def cells_in_turn(kinds, most, handed):
     return cells
 
 
-# None where what is handed over isn't cells of the kind.
+# None where there's no such kind, or what is handed over isn't cells of it.
 def cells_handed(kind, handed):
+    if not is_kind(kind):
+        return None
     return cells_in_turn([kind], MOST_CELLS, handed)
 
 

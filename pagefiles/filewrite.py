@@ -9,6 +9,7 @@ MOST_FILE_BYTES = 16384
 FILE_MARK = (80, 65, 71, 69, 83, 49)
 GROUP_MARK = (71, 0, 0, 0)
 FOOT_MARK = (70, 0, 0, 0)
+END_WIDTH = 10
 
 
 def head_bytes(g, kinds):
@@ -21,22 +22,18 @@ def group_start_bytes(n):
     return list(GROUP_MARK) + number_bytes(n, 4)
 
 
-# What the foot tells of a page: its place, how many bytes it has, how many nulls.
-def page_entry(place, width, cells):
-    return (place, width, cells.count(None))
-
-
-# The foot up to its check's four bytes; the entries stand group by group, in each by column.
+# The foot with its check's four bytes. Each entry tells of a page its place, how many bytes it has, how many nulls;
+# the entries stand group by group, in each by column.
 def foot_bytes(groups, entries):
     out = list(FOOT_MARK) + number_bytes(len(groups), 4)
-    for told in entries:
-        for number in told:
+    for entry_numbers in entries:
+        for number in entry_numbers:
             out.extend(number_bytes(number, 4))
     out.extend(number_bytes(row_count(groups), 4))
     return out + check_bytes(out)
 
 
-# The file's last ten bytes.
+# What stands behind the foot's check.
 def end_bytes(foot):
     return number_bytes(len(foot), 4) + list(FILE_MARK)
 
@@ -48,7 +45,7 @@ def file_bytes(table):
         out.extend(group_start_bytes(group_rows(group)))
         for kind, cells in zip(table.kinds, group):
             written = page_bytes(kind, cells)
-            entries.append(page_entry(len(out), len(written), cells))
+            entries.append((len(out), len(written), cells.count(None)))
             out.extend(written)
     foot = foot_bytes(table.groups, entries)
     return out + foot + end_bytes(foot)

@@ -50,6 +50,11 @@ def head_numbers(the_bytes):
     ]
 
 
+# How many bytes the page has that begins there, as its head tells.
+def page_width_at(the_bytes, at):
+    return HEAD_WIDTH + number_at(the_bytes, at + 12, 4) + CHECK_WIDTH
+
+
 # Of each of the n cells 1 if it isn't null, else 0.
 def present_marks(state, n, body):
     if state == SOME_NULL:

@@ -2,25 +2,28 @@
 answered, then each list that is told, with how many numbers it has ahead."""
 
 from pagefiles.cells import cells_handed, cells_told, is_kind, values_among
+from pagefiles.fileread import GoesWrong, table_in
 from pagefiles.filewrite import MOST_FILE_BYTES, file_bytes
 from pagefiles.layout import head_numbers, page_bytes, right_cells
-from pagefiles.tables import table_handed
+from pagefiles.tables import row_count, rows_told, table_handed
 from pagefiles.ways import each_way, way_taken
 
 NOT_AS_TOLD = -1
-NO_RIGHT_PAGE = -2
+NOT_RIGHT = -2
 TOO_FEW = -4
 FILE_TOO_LONG = -6
 WAY_DOES_NOT_GO = -1
 
 
+def listed(numbers):
+    return [len(numbers)] + numbers
+
+
 def answer_with_list(number, numbers):
-    return [number, len(numbers)] + numbers
+    return [number] + listed(numbers)
 
 
 def page(k, cells):
-    if not is_kind(k):
-        return [NOT_AS_TOLD]
     page_cells = cells_handed(k, cells)
     if page_cells is None:
         return [NOT_AS_TOLD]
@@ -38,7 +41,7 @@ def look(k, the_bytes):
     if not is_kind(k):
         return [NOT_AS_TOLD]
     if right_cells(k, the_bytes) is None:
-        return [NO_RIGHT_PAGE]
+        return [NOT_RIGHT]
     return answer_with_list(0, head_numbers(the_bytes))
 
 
@@ -47,15 +50,13 @@ def read(k, start, n, the_bytes):
         return [NOT_AS_TOLD]
     page_cells = right_cells(k, the_bytes)
     if page_cells is None:
-        return [NO_RIGHT_PAGE]
+        return [NOT_RIGHT]
     if start + n > len(page_cells):
         return [TOO_FEW]
     return answer_with_list(n, cells_told(k, page_cells[start:start + n]))
 
 
 def sizes(k, cells):
-    if not is_kind(k):
-        return [NOT_AS_TOLD]
     page_cells = cells_handed(k, cells)
     if page_cells is None:
         return [NOT_AS_TOLD]
@@ -75,3 +76,26 @@ def file(g, kinds, rows):
     if len(written) > MOST_FILE_BYTES:
         return [FILE_TOO_LONG]
     return answer_with_list(len(written), written)
+
+
+def open_of(the_bytes):
+    if len(the_bytes) > MOST_FILE_BYTES:
+        return [FILE_TOO_LONG]
+    try:
+        table = table_in(the_bytes)
+    except GoesWrong as wrong:
+        return answer_with_list(NOT_RIGHT, [wrong.place])
+    counts = [len(table.kinds), row_count(table.groups), table.g]
+    return answer_with_list(len(table.groups), counts) + listed(table.kinds)
+
+
+def rows(start, n, the_bytes):
+    if len(the_bytes) > MOST_FILE_BYTES:
+        return [FILE_TOO_LONG]
+    try:
+        table = table_in(the_bytes)
+    except GoesWrong as wrong:
+        return answer_with_list(NOT_RIGHT, [wrong.place])
+    if start + n > row_count(table.groups):
+        return [TOO_FEW]
+    return answer_with_list(n, rows_told(table, start, n))

@@ -1,6 +1,6 @@
 """A table: its columns' kinds, and its rows cut into groups."""
 
-from pagefiles.cells import cells_in_turn, is_kind
+from pagefiles.cells import cell_told, cells_in_turn, is_kind
 
 MOST_COLUMNS = 8
 MOST_GROUP_ROWS = 64
@@ -53,3 +53,12 @@ def table_handed(g, kinds, handed):
     if cells is None or len(cells) % width != 0:
         return None
     return Table(g, kinds, groups_of(g, width, cells))
+
+
+def rows_told(table, start, n):
+    told = []
+    for place in range(start, start + n):
+        group = table.groups[place // table.g]
+        for kind, cells in zip(table.kinds, group):
+            told.extend(cell_told(kind, cells[place % table.g]))
+    return told

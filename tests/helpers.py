@@ -255,23 +255,30 @@ def end_of(foot):
     return u(len(foot)) + MARK
 
 
-def file_parts(g, kinds, rows):
-    """The parts of the table's file in order: what each is, and its bytes. A row is a list of cells."""
+def groups_of(g, rows):
+    return [rows[first:first + g] for first in range(0, len(rows), g)]
+
+
+def parts_of_groups(g, kinds, groups):
+    """The parts in order: what each is, and its bytes; also of groups that no table has. A row is a list of cells."""
     head = checked(MARK + bytes([len(kinds), g]) + bytes(kinds))
     parts = [("mark", MARK), ("columns", head[6:7]), ("g", head[7:8]), ("kinds", head[8:-4]), ("check", head[-4:])]
-    at, entries, groups = len(head), [], 0
-    for first in range(0, len(rows), g):
-        group = rows[first:first + g]
+    at, entries = len(head), []
+    for group in groups:
         parts.append(("group", b"G\0\0\0" + u(len(group))))
-        at, groups = at + 8, groups + 1
+        at += 8
         for j, kind in enumerate(kinds):
             cells = [row[j] for row in group]
             page = bytes(right_page(kind, cells))
             entries.append((at, len(page), cells.count(None)))
             parts.append(("page", page))
             at += len(page)
-    foot = foot_of(entries, groups, len(rows))
+    foot = foot_of(entries, len(groups), sum(len(group) for group in groups))
     return parts + [("foot", foot), ("end", end_of(foot))]
+
+
+def file_parts(g, kinds, rows):
+    return parts_of_groups(g, kinds, groups_of(g, rows))
 
 
 def joined(parts):

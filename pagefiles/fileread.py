@@ -2,7 +2,8 @@
 stand there. Bytes that are missing make a part differ, so where a file ends too
 early it goes wrong at the part that isn't whole."""
 
-from pagefiles.filewrite import END_WIDTH, FILE_MARK, FOOT_MARK, file_bytes, group_start_bytes
+from pagefiles.filewrite import END_WIDTH, ENTRY_WIDTH, FILE_MARK, FOOT_MARK, FOOT_START_WIDTH
+from pagefiles.filewrite import file_bytes, group_start_bytes
 from pagefiles.layout import page_width_at, right_cells
 from pagefiles.numerals import check_bytes, number_at
 from pagefiles.tables import MOST_ROWS, Table, are_kinds, is_column_count, is_group_size, row_count
@@ -112,3 +113,12 @@ def table_in(the_bytes):
     read_foot(reading, table)
     require(reading, reading.place == len(the_bytes))
     return table
+
+
+# Of group i's page of column j: its place, how many bytes, how many nulls. The bytes are the table's file, so what
+# its foot says holds.
+def entry_in_foot(table, i, j, the_bytes):
+    foot_end = len(the_bytes) - END_WIDTH
+    foot_start = foot_end - number_at(the_bytes, foot_end, 4)
+    at = foot_start + FOOT_START_WIDTH + ENTRY_WIDTH * (i * len(table.kinds) + j)
+    return [number_at(the_bytes, at + 4 * turn, 4) for turn in range(3)]

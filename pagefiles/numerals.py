@@ -55,8 +55,13 @@ def packed_numbers(q, k, the_bytes):
     return numbers
 
 
-def check_number(the_bytes):
-    state = ALL_ONES
+def is_check(c):
+    return 0 <= c <= ALL_ONES
+
+
+# The check of these bytes behind others of which it's c. Of no bytes it's 0: with that c it begins with ones.
+def check_number(c, the_bytes):
+    state = c ^ ALL_ONES
     for byte in the_bytes:
         state = state ^ byte
         state = (state >> 4) ^ CHECK_STEPS[state % 16]
@@ -65,4 +70,4 @@ def check_number(the_bytes):
 
 
 def check_bytes(the_bytes):
-    return number_bytes(check_number(the_bytes), 4)
+    return number_bytes(check_number(0, the_bytes), 4)

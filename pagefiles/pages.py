@@ -2,9 +2,10 @@
 answered, then each list that is told, with how many numbers it has ahead."""
 
 from pagefiles.cells import cells_handed, cells_told, is_kind, values_among
-from pagefiles.fileread import GoesWrong, table_in
+from pagefiles.fileread import GoesWrong, entry_in_foot, table_in
 from pagefiles.filewrite import MOST_FILE_BYTES, file_bytes
 from pagefiles.layout import head_numbers, page_bytes, right_cells
+from pagefiles.numerals import check_number, is_check
 from pagefiles.tables import row_count, rows_told, table_handed
 from pagefiles.ways import each_way, way_taken
 
@@ -78,24 +79,43 @@ def file(g, kinds, rows):
     return answer_with_list(len(written), written)
 
 
-def open_of(the_bytes):
+# The table whose file these bytes are; else the refusal, which is a list.
+def table_or_refusal(the_bytes):
     if len(the_bytes) > MOST_FILE_BYTES:
         return [FILE_TOO_LONG]
     try:
-        table = table_in(the_bytes)
+        return table_in(the_bytes)
     except GoesWrong as wrong:
         return answer_with_list(NOT_RIGHT, [wrong.place])
+
+
+def open_of(the_bytes):
+    table = table_or_refusal(the_bytes)
+    if isinstance(table, list):
+        return table
     counts = [len(table.kinds), row_count(table.groups), table.g]
     return answer_with_list(len(table.groups), counts) + listed(table.kinds)
 
 
 def rows(start, n, the_bytes):
-    if len(the_bytes) > MOST_FILE_BYTES:
-        return [FILE_TOO_LONG]
-    try:
-        table = table_in(the_bytes)
-    except GoesWrong as wrong:
-        return answer_with_list(NOT_RIGHT, [wrong.place])
+    table = table_or_refusal(the_bytes)
+    if isinstance(table, list):
+        return table
     if start + n > row_count(table.groups):
         return [TOO_FEW]
     return answer_with_list(n, rows_told(table, start, n))
+
+
+def entry(i, j, the_bytes):
+    table = table_or_refusal(the_bytes)
+    if isinstance(table, list):
+        return table
+    if i >= len(table.groups) or j >= len(table.kinds):
+        return [TOO_FEW]
+    return answer_with_list(0, entry_in_foot(table, i, j, the_bytes))
+
+
+def check(c, the_bytes):
+    if not is_check(c):
+        return [NOT_AS_TOLD]
+    return [check_number(c, the_bytes)]

@@ -298,6 +298,19 @@ def part_places(parts):
     return out
 
 
+def wrong_files(g, kinds, rows):
+    """Pairs of bytes and where they first go wrong: in each part of the table's file, ahead of it and behind all."""
+    parts = file_parts(g, kinds, rows)
+    right = joined(parts)
+    out = [([], 0), (right + [0], len(right)), (right[:-1], len(right) - 10)]
+    for _, first, behind in part_places(parts):
+        out.append((right[:first], first))
+        changed = list(right)
+        changed[behind - 1] ^= 128
+        out.append((changed, first))
+    return out
+
+
 def handed_rows(rows):
     return handed([cell for row in rows for cell in row])
 

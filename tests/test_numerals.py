@@ -6,16 +6,16 @@ from pagefiles.numerals import check_bytes, check_number, number_at, number_byte
 
 class Numerals(unittest.TestCase):
     def test_check_known_answers(self):
-        self.assertEqual(check_number([]), 0)
-        self.assertEqual(check_number(list(b"123456789")), 0xE3069283)
-        self.assertEqual(check_number([0] * 32), 0x8A9136AA)
-        self.assertEqual(check_number([255] * 32), 0x62A8AB43)
-        self.assertEqual(check_number(list(range(32))), 0x46DD794E)
+        self.assertEqual(check_number(0, []), 0)
+        self.assertEqual(check_number(0, list(b"123456789")), 0xE3069283)
+        self.assertEqual(check_number(0, [0] * 32), 0x8A9136AA)
+        self.assertEqual(check_number(0, [255] * 32), 0x62A8AB43)
+        self.assertEqual(check_number(0, list(range(32))), 0x46DD794E)
         self.assertEqual(check_bytes(list(b"123456789")), [0x83, 0x92, 0x06, 0xE3])
 
     def test_check_of_each_byte(self):
         for byte in range(256):
-            self.assertEqual(check_number([byte]), crc32c([byte]))
+            self.assertEqual(check_number(0, [byte]), crc32c([byte]))
 
     def test_numbers_as_bytes(self):
         for width in (1, 4, 8, 9):

@@ -1,7 +1,7 @@
 import unittest
 
 from helpers import (GREATEST, LEAST, TOP, Draw, drawn_table, file_parts, handed_rows, joined, page_of, part_places, right_file,
-                     rows_for, s, sample_tables)
+                     rows_for, s, sample_tables, wrong_files)
 from pagefiles.pages import file, open_of, rows
 
 
@@ -90,20 +90,9 @@ class Refused(unittest.TestCase):
         for start, n in ((6, 1), (7, 0), (5, 2), (0, 8), (7, 1)):
             self.assertEqual(rows(start, n, data), [-4])
 
-    def wrong_files(self, g, kinds, table_rows):
-        parts = file_parts(g, kinds, table_rows)
-        right, places = joined(parts), part_places(parts)
-        out = [([], 0), (right + [0], len(right)), (right[:-1], len(right) - 10)]
-        for _, first, behind in places:
-            out.append((right[:first], first))
-            changed = list(right)
-            changed[behind - 1] ^= 128
-            out.append((changed, first))
-        return out
-
     def test_where_it_goes_wrong_comes_ahead_of_too_few(self):
         for g, kinds, table_rows in ((4, [0], []), (4, [0, 1], rows_for([0, 1], 6, 4)), (1, [1] * 3, rows_for([1] * 3, 2))):
-            for wrong, place in self.wrong_files(g, kinds, table_rows):
+            for wrong, place in wrong_files(g, kinds, table_rows):
                 self.assertEqual(open_of(wrong), [-2, 1, place])
                 for start, n in ((0, 0), (0, len(table_rows)), (0, len(table_rows) + 1), (TOP, TOP), (TOP, 0), (0, TOP)):
                     self.assertEqual(rows(start, n, wrong), [-2, 1, place])

@@ -5,7 +5,7 @@ from pagefiles.cells import cells_handed, cells_told, is_kind, values_among
 from pagefiles.fileread import GoesWrong, entry_in_foot, table_in
 from pagefiles.filewrite import MOST_FILE_BYTES, file_bytes
 from pagefiles.layout import head_numbers, page_bytes, right_cells
-from pagefiles.numerals import check_number, is_check
+from pagefiles.numerals import check_number, is_check, packed_bytes, packed_numbers, packed_width
 from pagefiles.tables import row_count, rows_told, table_handed
 from pagefiles.ways import each_way, way_taken
 
@@ -14,6 +14,9 @@ NOT_RIGHT = -2
 TOO_FEW = -4
 FILE_TOO_LONG = -6
 WAY_DOES_NOT_GO = -1
+
+MOST_BITS = 64
+MOST_NUMBERS = 256
 
 
 def listed(numbers):
@@ -119,3 +122,23 @@ def check(c, the_bytes):
     if not is_check(c):
         return [NOT_AS_TOLD]
     return [check_number(c, the_bytes)]
+
+
+# These bounds are of pack and unpack alone: a page's differences may take 65 bits.
+def may_pack(q, k):
+    return q <= MOST_BITS and k <= MOST_NUMBERS
+
+
+def pack(q, numbers):
+    if not may_pack(q, len(numbers)) or any([number.bit_length() > q for number in numbers]):
+        return [NOT_AS_TOLD]
+    packed = packed_bytes(q, numbers)
+    return answer_with_list(len(packed), packed)
+
+
+def unpack(q, k, the_bytes):
+    if not may_pack(q, k):
+        return [NOT_AS_TOLD]
+    if len(the_bytes) != packed_width(q, k):
+        return [NOT_RIGHT]
+    return answer_with_list(k, packed_numbers(q, k, the_bytes))
